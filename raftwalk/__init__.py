@@ -1,0 +1,1 @@
+"""Raftwalk: folk on a raft who drive it by walking, and step ashore."""

@@ -1,7 +1,10 @@
 """What the tests share: things of all kinds, cases, and an oracle over fractions.Fraction."""
 
 from fractions import Fraction
-from itertools import product
+from itertools import combinations, product
+
+from raftwalk.standings import gap_behind
+from raftwalk.stepping import can_step, places_for, stepped
 
 
 def nested(depth, kind, core):
@@ -84,3 +87,47 @@ def cases():
     odd = tuple(pair(Fraction(k + 1, k + 2)) for k in range(7))
     for raft, gap in product(RAFTS, GAPS):
         yield raft, SEVEN, (gap, odd)
+
+
+# Crossings where it matters who goes when: unlike reaches, and alike ones at the edge.
+THREE = (("ann", 50, 2), ("bob", 70, 2), ("cy", 40, 2))
+FRONT = ((0, 1), (0, 1), (0, 1))
+IN_ONE_ORDER = ((4, 40), (("ann", 20, 1), ("bob", 20, 0), ("cy", 50, 3)), ((2, 1), FRONT))
+FIVE = (("al", 30, 0), ("bo", 110, 4), ("cy", 75, 1), ("di", 60, 2), ("ed", 150, 3))
+
+
+def crossings():
+    """Rafts, folk of few and standings, from none who can get ashore to all."""
+    for folk in FOLKS[2:] + [THREE, IN_ONE_ORDER[1]]:
+        for raft, top in product([(4, 40), (6, 100), (10, 7)], range(0, 17, 2)):
+            yield raft, folk, (pair(Fraction(top, 3)), tuple((0, 1) for _ in folk))
+            yield raft, folk, (pair(Fraction(top, 4)), tuple(pair(Fraction(k, k + 1)) for k, _ in enumerate(folk)))
+    for top in range(1, 8):
+        yield (12, 90), FIVE, ((top, 1), ((1, 2), (0, 1), (1, 3), (0, 1), (2, 7)))
+
+
+def names(folk):
+    return [one[0] for one in folk]
+
+
+def subsets(folk):
+    """All lots of names of the folk, rising."""
+    return sorted(lot for many in range(len(folk) + 1) for lot in combinations(names(folk), many))
+
+
+def chances(raft, folk, standing):
+    """All orders in which some get ashore, () too, gone through one by one."""
+    yield ()
+    for name in can_step(raft, folk, standing):
+        places = places_for(raft, folk, standing, name)
+        gap = gap_behind(raft, folk, standing, places)
+        left = stepped(raft, folk, (gap, places), name)
+        for rest in chances(raft, *left):
+            yield (name,) + rest
+
+
+def seven(reaches, gap=(9, 1)):
+    """Seven folk of these reaches, with numbers as long as may be handed in."""
+    folk = tuple(zip("abcdefg", (50, 62, 73, 84, 95, 110, 200), reaches))
+    places = tuple(pair(Fraction(10 ** 39 + 2 * k + 1, 10 ** 39 + 3 * k + 8)) for k in range(7))
+    return (12, 40), folk, (gap, places)

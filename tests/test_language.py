@@ -22,6 +22,13 @@ BARRED_WORDS = re.compile(
 BARRED_NODES = (
     ast.Global, ast.AsyncFunctionDef, ast.AsyncFor, ast.AsyncWith, ast.Await, ast.Div, ast.MatMult, ast.GeneratorExp,
 )
+# L5, as far as the package uses them, and the methods of builtin values of L25.
+SPECIAL = {"__init__", "__eq__", "__len__", "__repr__", "__str__"}
+METHODS = set(
+    "append clear copy count endswith extend find get index insert isalnum isalpha isdigit islower isspace isupper items"
+    " join keys ljust lower lstrip partition pop remove replace reverse rfind rjust rpartition rsplit rstrip setdefault"
+    " split splitlines startswith strip update upper values zfill bit_length __init__".split()
+)
 MODULE_LEVEL = (ast.ImportFrom, ast.FunctionDef, ast.ClassDef, ast.Assign)
 
 
@@ -90,6 +97,43 @@ class Code(unittest.TestCase):
                     for sign, right in zip(node.ops, node.comparators):
                         if isinstance(sign, (ast.Is, ast.IsNot)):
                             self.assertIn(getattr(right, "value", 0), (None, True, False), name)
+
+    def test_methods(self):
+        own = {node.name for name, tree in trees() for node in ast.walk(tree) if isinstance(node, ast.FunctionDef)}
+        self.assertLessEqual({each for each in own if each.startswith("__")}, SPECIAL)
+        for name, tree in trees():
+            for node in ast.walk(tree):
+                if isinstance(node, ast.Call) and isinstance(node.func, ast.Attribute):
+                    self.assertIn(node.func.attr, METHODS | own, name)
+
+    def test_no_name_is_both_a_method_and_an_attribute(self):
+        methods, attributes = set(), set()
+        for name, tree in trees():
+            for node in ast.walk(tree):
+                if isinstance(node, ast.ClassDef):
+                    methods |= {each.name for each in node.body if isinstance(each, ast.FunctionDef)}
+                if isinstance(node, ast.Attribute) and isinstance(node.ctx, ast.Store):
+                    attributes.add(node.attr)
+        self.assertEqual(methods & attributes, set())
+
+    def test_a_finally_assigns_only(self):
+        for name, tree in trees():
+            for node in ast.walk(tree):
+                if isinstance(node, ast.Try):
+                    self.assertEqual(node.handlers, [], name)
+                    for row in node.finalbody:
+                        self.assertIsInstance(row, ast.Assign, name)
+                        self.assertIsInstance(row.value, ast.Constant, name)
+
+    def test_imports_go_one_way(self):
+        above = {}
+        for name, tree in trees():
+            above["raftwalk." + name[:-3]] = {node.module for node in ast.walk(tree) if isinstance(node, ast.ImportFrom)}
+        while above:
+            free = [name for name in above if not above[name] & set(above)]
+            self.assertTrue(free, above)
+            for name in free:
+                del above[name]
 
     def test_names(self):
         for name, tree in trees():

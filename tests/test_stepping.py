@@ -5,15 +5,9 @@ from fractions import Fraction
 
 from raftwalk.standings import are_folk, gap_behind, gaps, is_standing
 from raftwalk.stepping import can_step, places_for, stepped
-from tests.helper import GAPS, RAFTS, SEVEN, cases, frac, gap_by_middle, grid, pair
+from tests.helper import FRONT, GAPS, RAFTS, SEVEN, THREE, cases, frac, gap_by_middle, grid, names, pair
 
 RAFT = (4, 40)
-THREE = (("ann", 50, 2), ("bob", 70, 2), ("cy", 40, 2))
-FRONT = ((0, 1), (0, 1), (0, 1))
-
-
-def names(folk):
-    return [one[0] for one in folk]
 
 
 def least_for(raft, folk, standing, at):
